@@ -1,0 +1,1 @@
+"""Numbers on a board: two are wiped out, one is written instead, till one is left."""
