@@ -20,10 +20,31 @@ def wipe(i, j):
 
 SHOWS = [3]
 LASTS = [5]
+SURE = [9]
+
+# So many calls one list has at most, and so many of lasts, ways, how, which, sure and rests together.
+MOST_CALLS = 40
+MOST_QUESTIONS = 8
 
 
 def write(x):
     return [4, x]
+
+
+def ways(x):
+    return [6, x]
+
+
+def how(x):
+    return [7, x]
+
+
+def which(k):
+    return [8, k]
+
+
+def rests(m):
+    return [10, m]
 
 
 def joined(*calls):
@@ -45,8 +66,19 @@ def taken_apart(told):
 
 def asked(*calls):
     """The answers of these calls on a new board, one list each."""
+    if len(calls) > MOST_CALLS or sum(call[0] >= LASTS[0] for call in calls) > MOST_QUESTIONS:
+        raise ValueError("no such list is handed in")
     return taken_apart(answers(joined(*calls)))
 
 
 def last_asked(*calls):
     return asked(*calls)[-1]
+
+
+def questions_asked(before, questions):
+    """The answers of the questions, each on the board that the calls before make, some lists of calls long."""
+    found = []
+    for start in range(0, len(questions), MOST_QUESTIONS):
+        some = questions[start:start + MOST_QUESTIONS]
+        found += asked(*before, *some)[len(before):]
+    return found

@@ -5,17 +5,9 @@ import unittest
 from itertools import combinations_with_replacement
 
 import reckoning
+from boards import BOARDS, GROWN
 from calls import LASTS, SHOWS, asked, board, last_asked, rule, wipe, write
 from wipeboard.board import steps_in_order
-
-BOARDS = [
-    [0, 0], [0, 9], [4, 6], [5, 5],
-    [0, 0, 4], [1, 2, 3], [6, 10, 15], [7, 7, 2],
-    [0, 0, 0, 0], [0, 1, 1, 3], [4, 6, 9, 10], [1000, 1000, 999, 1],
-    [1, 2, 3, 4, 5], [0, 0, 8, 8, 8], [3, 1, 4, 1, 5], [12, 18, 20, 30, 45],
-    [1, 2, 3, 4, 5, 6], [0, 0, 0, 5, 5, 9], [2, 2, 2, 2, 2, 2], [1000, 1, 729, 64, 500, 0],
-    [1000, 1000, 1000, 1000, 1000, 1000], [991, 997, 983, 977, 971, 967],
-]
 
 
 class WorkedByHand(unittest.TestCase):
@@ -67,6 +59,13 @@ class AgainstTheReckoning(unittest.TestCase):
             for size in range(1, 5):
                 for numbers in combinations_with_replacement(range(5), size):
                     self.assertEqual(last_asked(board(number, numbers), LASTS),
+                                     reckoning.lasts_answer(number, numbers))
+
+    def test_grown_boards_under_each_rule(self):
+        for number in range(10):
+            for calls, numbers in GROWN:
+                with self.subTest(rule=number, numbers=numbers):
+                    self.assertEqual(last_asked(*calls, rule(number), LASTS),
                                      reckoning.lasts_answer(number, numbers))
 
     def test_behind_calls_that_change_something(self):

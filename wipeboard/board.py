@@ -3,15 +3,21 @@
 LAST_RULE = 9
 MOST_NUMBERS = 6
 GREATEST_NUMBER = 1000
+GREATEST_DIVISOR = 100
 
 CALL_BOARD = 0
 CALL_RULE = 1
 CALL_WIPE = 2
 CALL_SHOWS = 3
 CALL_WRITE = 4
+CALL_LASTS = 5
+CALL_WAYS = 6
+CALL_HOW = 7
+CALL_WHICH = 8
+CALL_SURE = 9
 
 # By the call's number: how many whole numbers follow it, a row's count among them, the row itself not.
-FOLLOWING = (2, 1, 2, 0, 1, 0)
+FOLLOWING = (2, 1, 2, 0, 1, 0, 1, 1, 1, 0, 1)
 
 
 def greatest_common_divisor(a, b):
@@ -72,21 +78,62 @@ def after_step(rule, numbers, i, j):
 
 
 def boards_a_step_on(rule, boards):
-    """The different boards that one step makes of boards that all have as many numbers."""
-    steps = steps_in_order(len(boards[0]))
+    """The different boards that one step makes of these; with each board, how many ways lead to it."""
     found = {}
-    for numbers in boards:
-        for i, j in steps:
-            found[after_step(rule, numbers, i, j)] = True
-    return list(found)
+    for numbers, ways in boards.items():
+        for i, j in steps_in_order(len(numbers)):
+            behind = after_step(rule, numbers, i, j)
+            found[behind] = found.get(behind, 0) + ways
+    return found
 
 
-def last_numbers(rule, numbers):
-    """The different numbers that can be the last, rising."""
-    boards = [numbers]
-    while len(boards[0]) > 1:
+def ways_by_last(rule, numbers):
+    """Each number that can be the last, with in how many ways it is."""
+    # Ways that come to the same board go on alike: counted together they are far fewer than one by one.
+    boards = {numbers: 1}
+    for size in range(len(numbers), 1, -1):
         boards = boards_a_step_on(rule, boards)
-    return sorted([left[0] for left in boards])
+    found = {}
+    for left, ways in boards.items():
+        found[left[0]] = ways
+    return found
+
+
+def ways_all_together(size):
+    """How many ways a board of so many numbers has; they are as many under every rule."""
+    product = 1
+    for left in range(size, 1, -1):
+        product = product * len(steps_in_order(left))
+    return product
+
+
+def last_by_way(rule, numbers, k):
+    """The last number by the k-th of all ways, which must be there."""
+    while len(numbers) > 1:
+        # Behind each step there are as many ways, so the ways in order fall into parts that are alike long.
+        behind_each = ways_all_together(len(numbers) - 1)
+        step = steps_in_order(len(numbers))[k // behind_each]
+        k = k % behind_each
+        numbers = after_step(rule, numbers, step[0], step[1])
+    return numbers[0]
+
+
+def first_step_to(rule, numbers, last):
+    """The first step behind which that number can still be the last, or None."""
+    for i, j in steps_in_order(len(numbers)):
+        if last in ways_by_last(rule, after_step(rule, numbers, i, j)):
+            return (i, j)
+    return None
+
+
+def first_way_to(rule, numbers, last):
+    """The steps of the first way to that number, which must be one that can be the last."""
+    steps = []
+    while len(numbers) > 1:
+        step = first_step_to(rule, numbers, last)
+        steps.append(step)
+        numbers = after_step(rule, numbers, step[0], step[1])
+    return steps
 
 
 class Board:
@@ -130,8 +177,38 @@ class Board:
         return [len(self.numbers)]
 
     def answer_lasts(self):
-        lasts = last_numbers(self.rule, self.numbers)
+        lasts = sorted(ways_by_last(self.rule, self.numbers))
         return [len(lasts)] + lasts
+
+    def answer_ways(self, x):
+        found = ways_by_last(self.rule, self.numbers)
+        return [found.get(x, 0), ways_all_together(len(self.numbers))]
+
+    def answer_how(self, x):
+        if x not in ways_by_last(self.rule, self.numbers):
+            return [-6]
+        steps = first_way_to(self.rule, self.numbers, x)
+        answer = [len(steps)]
+        for step in steps:
+            answer.extend(step)
+        return answer
+
+    def answer_which(self, k):
+        if k >= ways_all_together(len(self.numbers)):
+            return [-3]
+        return [last_by_way(self.rule, self.numbers, k)]
+
+    def answer_sure(self):
+        lasts = sorted(ways_by_last(self.rule, self.numbers))
+        if len(lasts) == 1:
+            return [1, lasts[0]]
+        return [0, lasts[0], lasts[-1]]
+
+    def answer_rests(self, m):
+        if not 1 <= m <= GREATEST_DIVISOR:
+            return [-1]
+        rests = sorted(set([last % m for last in ways_by_last(self.rule, self.numbers)]))
+        return [len(rests)] + rests
 
 
 def end_of_call(calls, start):
@@ -154,8 +231,18 @@ def answer_of(board, call):
         return board.answer_shows()
     if call[0] == CALL_WRITE:
         return board.answer_write(call[1])
-    # Only lasts is left: a call that isn't there has been stopped where its end was sought.
-    return board.answer_lasts()
+    if call[0] == CALL_LASTS:
+        return board.answer_lasts()
+    if call[0] == CALL_WAYS:
+        return board.answer_ways(call[1])
+    if call[0] == CALL_HOW:
+        return board.answer_how(call[1])
+    if call[0] == CALL_WHICH:
+        return board.answer_which(call[1])
+    if call[0] == CALL_SURE:
+        return board.answer_sure()
+    # Only rests is left: a call that isn't there has been stopped where its end was sought.
+    return board.answer_rests(call[1])
 
 
 def answers(calls):
